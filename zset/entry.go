@@ -5,6 +5,7 @@ import (
 	"strings"
 
 	"deltaworks/api"
+	"deltaworks/refuse"
 	"deltaworks/value"
 )
 
@@ -34,7 +35,7 @@ func (l entries) counted(of func(int) int) entries {
 // limit refuses more rows than a collection has.
 func (l entries) limit() {
 	if len(l) > api.RowsMost {
-		refuse(api.ErrFull)
+		refuse.With(api.ErrFull)
 	}
 }
 
@@ -47,7 +48,7 @@ func (l entries) zset() api.Zset {
 			continue
 		}
 		if n == len(z) {
-			refuse(api.ErrFull)
+			refuse.With(api.ErrFull)
 		}
 		z[n] = api.Item{Row: copied(x.Row), N: x.N}
 		n++
@@ -58,13 +59,13 @@ func (l entries) zset() api.Zset {
 // read returns the items of a collection with their keys; it refuses one that is not valid.
 func read(z api.Zset) entries {
 	if len(z) > api.RowsMost {
-		refuse(api.ErrLong)
+		refuse.With(api.ErrLong)
 	}
 	l := make(entries, len(z))
 	for i, x := range z {
 		l[i] = keyed(x)
 		if x.N == 0 || i > 0 && l[i-1].key >= l[i].key {
-			refuse(api.ErrArg)
+			refuse.With(api.ErrArg)
 		}
 	}
 	return l
@@ -73,13 +74,7 @@ func read(z api.Zset) entries {
 func keyed(x api.Item) entry { return entry{keyOf(x.Row), x} }
 
 // keyOf returns the key of a row; it refuses one that is no valid value.
-func keyOf(row api.Value) string {
-	k, e := value.Key(row)
-	if e != api.OK {
-		refuse(e)
-	}
-	return k
-}
+func keyOf(row api.Value) string { return refuse.Unless(value.Key(row)) }
 
 // copied returns a valid value in new memory.
 func copied(v api.Value) api.Value {

@@ -2,6 +2,7 @@ package zset
 
 import (
 	"deltaworks/api"
+	"deltaworks/refuse"
 	"deltaworks/value"
 )
 
@@ -50,7 +51,7 @@ func pairs(a, b entries) entries {
 			row := api.Value{Kind: api.ValueTuple, L: []api.Value{x.Row, y.Row}}
 			k, e := value.Key(row)
 			if e != api.OK {
-				refuse(api.ErrFull)
+				refuse.With(api.ErrFull)
 			}
 			l.put(entry{k, api.Item{Row: row, N: x.N * y.N}})
 		}
