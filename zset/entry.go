@@ -5,6 +5,7 @@ import (
 	"strings"
 
 	"deltaworks/api"
+	"deltaworks/fresh"
 	"deltaworks/refuse"
 	"deltaworks/value"
 )
@@ -50,7 +51,7 @@ func (l entries) zset() api.Zset {
 		if n == len(z) {
 			refuse.With(api.ErrFull)
 		}
-		z[n] = api.Item{Row: copied(x.Row), N: x.N}
+		z[n] = api.Item{Row: fresh.Value(x.Row), N: x.N}
 		n++
 	}
 	return z[:n:n]
@@ -75,20 +76,6 @@ func keyed(x api.Item) entry { return entry{keyOf(x.Row), x} }
 
 // keyOf returns the key of a row; it refuses one that is no valid value.
 func keyOf(row api.Value) string { return refuse.Unless(value.Key(row)) }
-
-// copied returns a valid value in new memory.
-func copied(v api.Value) api.Value {
-	var l []api.Value
-	if len(v.L) > 0 {
-		l = make([]api.Value, len(v.L))
-		copy(l, v.L)
-	}
-	for i := range l {
-		l[i] = copied(l[i])
-	}
-	v.L = l
-	return v
-}
 
 // order is an order of the parts of a list: by their keys.
 type order[T any] struct{ key func(T) string }
