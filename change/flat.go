@@ -2,6 +2,7 @@ package change
 
 import (
 	"deltaworks/api"
+	"deltaworks/refuse"
 	"deltaworks/value"
 )
 
@@ -33,7 +34,7 @@ func (f valueForm) empty() api.Data {
 }
 
 func (f valueForm) apply(d api.Data, c api.Change) api.Data {
-	demand(sameValue(d.V, c.Old), api.ErrState)
+	refuse.Demand(sameValue(d.V, c.Old), api.ErrState)
 	d.V = c.New
 	return d
 }
@@ -55,12 +56,12 @@ func (f valueForm) invert(c api.Change) api.Change {
 }
 
 func (f valueForm) compose(a, b api.Change) api.Change {
-	demand(sameValue(a.New, b.Old), api.ErrState)
+	refuse.Demand(sameValue(a.New, b.Old), api.ErrState)
 	return f.between(a.Old, b.New)
 }
 
 func (f valueForm) merge(a, b api.Change) api.Change {
-	demand(sameValue(a.Old, b.Old) && sameValue(a.New, b.New), api.ErrState)
+	refuse.Demand(sameValue(a.Old, b.Old) && sameValue(a.New, b.New), api.ErrState)
 	return a
 }
 

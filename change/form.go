@@ -2,6 +2,7 @@ package change
 
 import (
 	"deltaworks/api"
+	"deltaworks/refuse"
 	"deltaworks/value"
 )
 
@@ -53,10 +54,10 @@ func formOf(t api.DataType) form { return look{t, 1, new(int)}.form() }
 func (l look) form() form {
 	table := kinds()
 	*l.seen++
-	demand(*l.seen <= api.DataTypes && l.deep <= api.DataDeep && l.Kind >= 0 && l.Kind < len(table), api.ErrArg)
+	refuse.Demand(*l.seen <= api.DataTypes && l.deep <= api.DataDeep && l.Kind >= 0 && l.Kind < len(table), api.ErrArg)
 	k := table[l.Kind]
-	demand(len(l.L) >= k.least && len(l.L) <= k.most, api.ErrArg)
-	demand(!k.typed || value.Type(l.T) == api.OK, api.ErrArg)
+	refuse.Demand(len(l.L) >= k.least && len(l.L) <= k.most, api.ErrArg)
+	refuse.Demand(!k.typed || value.Type(l.T) == api.OK, api.ErrArg)
 	return k.form(l)
 }
 

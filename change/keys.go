@@ -72,7 +72,7 @@ walk:
 			break walk
 		}
 	}
-	demand(there, api.ErrState)
+	refuse.Demand(there, api.ErrState)
 	return made
 }
 
@@ -117,7 +117,7 @@ func (f mapForm) behind(x, y api.KeyChange) api.KeyChange {
 		x.Data = applied(f.of, x.Data, y.Change)
 		return x
 	case ops{api.KeyPut, api.KeyDrop}:
-		demand(sameData(x.Data, y.Data), api.ErrState)
+		refuse.Demand(sameData(x.Data, y.Data), api.ErrState)
 		return within(x.Key, f.of.none())
 	case ops{api.KeyDrop, api.KeyPut}:
 		return within(x.Key, f.of.diff(x.Data, y.Data))
@@ -133,11 +133,11 @@ func (f mapForm) behind(x, y api.KeyChange) api.KeyChange {
 
 // beside returns what happens to a key in two changes of one map, brought together.
 func (f mapForm) beside(x, y api.KeyChange) api.KeyChange {
-	demand(x.Op == y.Op, api.ErrState)
+	refuse.Demand(x.Op == y.Op, api.ErrState)
 	if x.Op == api.KeyIn {
 		return within(x.Key, merged(f.of, x.Change, y.Change))
 	}
-	demand(sameData(x.Data, y.Data), api.ErrState)
+	refuse.Demand(sameData(x.Data, y.Data), api.ErrState)
 	return x
 }
 

@@ -64,13 +64,13 @@ func (f setForm) fits(c api.Change) bool { return f.bagForm.fits(c) && counts(c.
 // apply finds in the sum what was put where it was, which is there twice, and what was dropped where it was not, which is missing.
 func (f setForm) apply(d api.Data, c api.Change) api.Data {
 	d = f.bagForm.apply(d, c)
-	demand(counts(d.Rows, 1), api.ErrState)
+	refuse.Demand(counts(d.Rows, 1), api.ErrState)
 	return d
 }
 
 func (f setForm) compose(a, b api.Change) api.Change {
 	c := f.bagForm.compose(a, b)
-	demand(counts(c.Rows, 1, -1), api.ErrState)
+	refuse.Demand(counts(c.Rows, 1, -1), api.ErrState)
 	return c
 }
 
@@ -82,7 +82,7 @@ func (f setForm) merge(a, b api.Change) api.Change {
 		lost -= max(x.N, -x.N)
 		c.Rows[i].N = cmp.Compare(x.N, 0)
 	}
-	demand(lost == 0, api.ErrState)
+	refuse.Demand(lost == 0, api.ErrState)
 	return c
 }
 

@@ -21,3 +21,9 @@ func Value(v api.Value) api.Value {
 	v.L = List(v.L, Value)
 	return v
 }
+
+// Type returns a type in new memory. It must be valid, too.
+func Type(t api.Type) api.Type {
+	t.L = List(t.L, Type)
+	return t
+}

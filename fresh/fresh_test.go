@@ -40,3 +40,16 @@ func TestList(t *testing.T) { // R3, R4, R6
 		t.Errorf("%v of nothing", z)
 	}
 }
+
+func TestType(t *testing.T) { // R4
+	inner := []api.Type{{}, {Kind: api.TypeText}}
+	outer := []api.Type{{Kind: api.TypeSum, L: inner}, {Kind: api.TypeTuple, L: inner}, {Kind: api.TypeTuple}}
+	c := fresh.Type(api.Type{Kind: api.TypeTuple, L: outer})
+	if c.Kind != api.TypeTuple || len(c.L) != 3 || c.L[0].Kind != api.TypeSum || len(c.L[0].L) != 2 || c.L[1].L[1].Kind != api.TypeText || len(c.L[2].L) > 0 {
+		t.Fatalf("%v of %v", c, outer)
+	}
+	c.L[0].L[1].Kind, c.L[2].Kind = api.TypeInt, api.TypeInt
+	if inner[1].Kind != api.TypeText || outer[2].Kind != api.TypeTuple || c.L[1].L[1].Kind != api.TypeText {
+		t.Errorf("%v and %v share memory", c, outer)
+	}
+}

@@ -6,6 +6,13 @@ import "deltaworks/api"
 // With ends what Answer was asked for, with an error.
 func With(e api.Errno) { panic(e) }
 
+// Demand refuses what must be so, and is not.
+func Demand(so bool, e api.Errno) {
+	if !so {
+		With(e)
+	}
+}
+
 // Unless returns what a call returned, unless this came with an error: then it refuses with it.
 func Unless[T any](x T, e api.Errno) T {
 	if e != api.OK {

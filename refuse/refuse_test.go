@@ -25,6 +25,8 @@ func TestAnswer(t *testing.T) { // R2, P1
 		{func() int { return refuse.Unless(half(8)) + 1 }, 5, api.OK},
 		{func() int { return refuse.Unless(half(9)) + 1 }, 0, api.ErrRange},
 		{func() int { refuse.With(api.ErrFull); return 5 }, 0, api.ErrFull},
+		{func() int { refuse.Demand(true, api.ErrFull); return 5 }, 5, api.OK},
+		{func() int { refuse.Demand(false, api.ErrFull); return 5 }, 0, api.ErrFull},
 		{func() int { defer refuse.With(api.ErrFull); return 5 }, 0, api.ErrFull},
 		{func() int { return []int{1}[len("ab")] }, 0, api.ErrArg},
 	} {
