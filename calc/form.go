@@ -5,6 +5,7 @@ import (
 	"slices"
 
 	"deltaworks/api"
+	"deltaworks/lists"
 	"deltaworks/refuse"
 	"deltaworks/value"
 )
@@ -18,7 +19,7 @@ type checker struct{ known []callee }
 // demandFuns returns a checker that knows functions; it refuses them unless they are formed.
 func demandFuns(funs []api.Fun) *checker {
 	c := &checker{}
-	refuse.Demand(len(funs) <= api.ProgFuns && every(funs, c.admits), api.ErrArg)
+	refuse.Demand(len(funs) <= api.ProgFuns && lists.Every(funs, c.admits), api.ErrArg)
 	return c
 }
 
@@ -149,16 +150,6 @@ func (n node) isCall() bool {
 }
 
 // areTypes reports whether there are at most so many types, all of them valid.
-func areTypes(l []api.Type, most int) bool { return len(l) <= most && every(l, isType) }
+func areTypes(l []api.Type, most int) bool { return len(l) <= most && lists.Every(l, isType) }
 
 func isType(t api.Type) bool { return value.Type(t) == api.OK }
-
-// every reports whether something is so of all parts of a list.
-func every[T any](l []T, so func(T) bool) bool {
-	for _, x := range l {
-		if !so(x) {
-			return false
-		}
-	}
-	return true
-}

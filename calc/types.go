@@ -3,6 +3,7 @@ package calc
 import (
 	"slices"
 
+	"deltaworks/alike"
 	"deltaworks/api"
 	"deltaworks/refuse"
 )
@@ -38,7 +39,7 @@ func (g get) typeIn(f types) api.Type {
 }
 
 func (t tagged) typeIn(f types) api.Type {
-	same(typeOf(&t.L[0], f), t.T[t.N])
+	alike.One(typeOf(&t.L[0], f), t.T[t.N])
 	return valid(api.Type{Kind: api.TypeSum, L: t.T})
 }
 
@@ -49,7 +50,7 @@ func (c choice) typeIn(f types) api.Type {
 	for i, t := range sum.L {
 		l[i] = typeOf(&c.L[i+1], f.with(t))
 	}
-	return same(l...)
+	return alike.One(l...)
 }
 
 func (l let) typeIn(f types) api.Type {
@@ -59,11 +60,11 @@ func (l let) typeIn(f types) api.Type {
 
 func (c condition) typeIn(f types) api.Type {
 	plain(f, c.L, api.TypeInt)
-	return same(each(c.L[1:], f, typeOf)...)
+	return alike.One(each(c.L[1:], f, typeOf)...)
 }
 
 func (b both) typeIn(f types) api.Type {
-	t := same(each(b.L, f, typeOf)...)
+	t := alike.One(each(b.L, f, typeOf)...)
 	refuse.Demand(t.Kind == api.TypeInt || operations()[b.N].ofAny(), api.ErrType)
 	return api.Type{Kind: api.TypeInt}
 }
@@ -84,7 +85,7 @@ func (c cut) typeIn(f types) api.Type {
 }
 
 func (c call) typeIn(f types) api.Type {
-	refuse.Demand(slices.EqualFunc(c.partTypes(f), f.funs[c.N].Params, alike), api.ErrType)
+	refuse.Demand(slices.EqualFunc(c.partTypes(f), f.funs[c.N].Params, alike.Types), api.ErrType)
 	return f.results[c.N]
 }
 
@@ -93,18 +94,6 @@ func plain(f types, l []api.Exp, kinds ...int) {
 	for i, kind := range kinds {
 		refuse.Demand(typeOf(&l[i], f).Kind == kind, api.ErrType)
 	}
-}
-
-// same returns the one type that all are; it refuses them if they are not the same.
-func same(l ...api.Type) api.Type {
-	isSame := func(t api.Type) bool { return alike(t, l[0]) }
-	refuse.Demand(every(l, isSame), api.ErrType)
-	return l[0]
-}
-
-// alike reports whether two valid types are the same.
-func alike(a, b api.Type) bool {
-	return a.Kind == b.Kind && slices.EqualFunc(a.L, b.L, alike)
 }
 
 // valid returns a type that is made of valid ones; it refuses one that is too great.

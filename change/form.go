@@ -2,6 +2,7 @@ package change
 
 import (
 	"deltaworks/api"
+	"deltaworks/lists"
 	"deltaworks/refuse"
 	"deltaworks/value"
 )
@@ -81,7 +82,7 @@ func (l look) bag() form { return bagForm{l.plain(), l.T} }
 
 func (l look) set() form { return setForm{bagForm{l.plain(), l.T}} }
 
-func (l look) tuple() form { return tupleForm{l.plain(), each(l.L, l.part)} }
+func (l look) tuple() form { return tupleForm{l.plain(), lists.Each(l.L, l.part)} }
 
 func (l look) mapping() form { return mapForm{l.plain(), l.T, l.part(l.L[0])} }
 

@@ -5,6 +5,7 @@ import (
 	"slices"
 
 	"deltaworks/api"
+	"deltaworks/lists"
 	"deltaworks/refuse"
 	"deltaworks/value"
 )
@@ -19,13 +20,13 @@ type mapForm struct {
 func (f mapForm) is(d api.Data) bool {
 	keys, l := d.Keys, d.L
 	d.Keys, d.L = nil, nil
-	return f.bare(d) && len(keys) == len(l) && f.rise(keys) && every(l, f.of.is)
+	return f.bare(d) && len(keys) == len(l) && f.rise(keys) && lists.Every(l, f.of.is)
 }
 
 func (f mapForm) fits(c api.Change) bool {
 	l := c.Keys
 	c.Keys = nil
-	return f.still(c) && len(l) <= api.DataMost && f.rise(each(l, keyOf)) && every(l, f.happens)
+	return f.still(c) && len(l) <= api.DataMost && f.rise(lists.Each(l, keyOf)) && lists.Every(l, f.happens)
 }
 
 // rise reports whether keys are of their type, and each one is ahead of the next one.
@@ -81,7 +82,9 @@ func (f mapForm) diff(a, b api.Data) api.Change {
 	return f.by(both(keyed(api.KeyDrop, a), keyed(api.KeyPut, b), f.behind))
 }
 
-func (f mapForm) invert(c api.Change) api.Change { return f.by(slices.Values(each(c.Keys, f.back))) }
+func (f mapForm) invert(c api.Change) api.Change {
+	return f.by(slices.Values(lists.Each(c.Keys, f.back)))
+}
 
 func (f mapForm) compose(a, b api.Change) api.Change { return f.by(both(a.Keys, b.Keys, f.behind)) }
 
@@ -185,10 +188,10 @@ type spot struct {
 }
 
 // gathered returns what happens to each key in some lists, and the bytes of all keys, in order, each once.
-func gathered(lists ...[]api.KeyChange) (map[spot]*api.KeyChange, []string) {
+func gathered(all ...[]api.KeyChange) (map[spot]*api.KeyChange, []string) {
 	at := map[spot]*api.KeyChange{}
 	var keys []string
-	for i, l := range lists {
+	for i, l := range all {
 		for n := range l {
 			key := refuse.Unless(value.Key(l[n].Key))
 			at[spot{i, key}] = &l[n]

@@ -3,6 +3,7 @@ package change
 import (
 	"deltaworks/api"
 	"deltaworks/edit"
+	"deltaworks/lists"
 	"deltaworks/refuse"
 )
 
@@ -15,13 +16,13 @@ type listForm struct {
 func (f listForm) is(d api.Data) bool {
 	l := d.List
 	d.List = nil
-	return f.bare(d) && len(l) <= api.EditMost && every(l, f.has)
+	return f.bare(d) && len(l) <= api.EditMost && lists.Every(l, f.has)
 }
 
 func (f listForm) fits(c api.Change) bool {
 	e := c.Edit
 	c.Edit = nil
-	return f.still(c) && (len(e) == 0 || isEdit(e) && every(e, f.hasAll))
+	return f.still(c) && (len(e) == 0 || isEdit(e) && lists.Every(e, f.hasAll))
 }
 
 // isEdit reports whether an edit is valid, of lists and makes lists that are not too long, and drops or puts something.
@@ -31,7 +32,7 @@ func isEdit(e []api.EditPiece) bool {
 }
 
 // hasAll reports whether all values of a piece can be in a list.
-func (f listForm) hasAll(p api.EditPiece) bool { return every(p.L, f.has) }
+func (f listForm) hasAll(p api.EditPiece) bool { return lists.Every(p.L, f.has) }
 
 func (f listForm) apply(d api.Data, c api.Change) api.Data {
 	d.List = refuse.Unless(edit.Apply(c.Edit, d.List))

@@ -4,6 +4,7 @@ import (
 	"slices"
 
 	"deltaworks/api"
+	"deltaworks/lists"
 )
 
 // tupleForm is the form of tuples.
@@ -26,11 +27,11 @@ func (f tupleForm) fits(c api.Change) bool {
 
 func (f tupleForm) empty() api.Data {
 	d := f.plain.empty()
-	d.L = each(f.parts, form.empty)
+	d.L = lists.Each(f.parts, form.empty)
 	return d
 }
 
-func (f tupleForm) none() api.Change { return f.by(each(f.parts, form.none)) }
+func (f tupleForm) none() api.Change { return f.by(lists.Each(f.parts, form.none)) }
 
 func (f tupleForm) apply(d api.Data, c api.Change) api.Data {
 	d.L = eachTwo(f.parts, d.L, c.L, applied)
@@ -61,15 +62,6 @@ func (f tupleForm) by(l []api.Change) api.Change {
 	return c
 }
 
-// each returns what of makes of each part of a list.
-func each[A, B any](l []A, of func(A) B) []B {
-	made := make([]B, len(l))
-	for i, x := range l {
-		made[i] = of(x)
-	}
-	return made
-}
-
 // eachTwo returns what of makes of the two that belong to each form, in lists that are as long as that of the forms.
 func eachTwo[A, B, C any](forms []form, a []A, b []B, of func(form, A, B) C) []C {
 	made := make([]C, len(forms))
@@ -77,9 +69,4 @@ func eachTwo[A, B, C any](forms []form, a []A, b []B, of func(form, A, B) C) []C
 		made[i] = of(f, a[i], b[i])
 	}
 	return made
-}
-
-// every reports whether all parts of a list are as is says.
-func every[L ~[]T, T any](l L, is func(T) bool) bool {
-	return !slices.ContainsFunc(l, func(x T) bool { return !is(x) })
 }

@@ -5,6 +5,7 @@ import (
 	"slices"
 
 	"deltaworks/api"
+	"deltaworks/lists"
 	"deltaworks/refuse"
 	"deltaworks/zset"
 )
@@ -88,5 +89,5 @@ func (f setForm) merge(a, b api.Change) api.Change {
 
 // counts reports whether all rows have one of some counts.
 func counts(z api.Zset, some ...int) bool {
-	return every(z, func(x api.Item) bool { return slices.Contains(some, x.N) })
+	return lists.Every(z, func(x api.Item) bool { return slices.Contains(some, x.N) })
 }

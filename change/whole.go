@@ -5,6 +5,7 @@ import (
 
 	"deltaworks/api"
 	"deltaworks/fresh"
+	"deltaworks/lists"
 	"deltaworks/value"
 )
 
@@ -14,14 +15,14 @@ func isSmall(d api.Data) bool {
 	var fill func(api.Data) bool
 	fill = func(d api.Data) bool {
 		room -= 1 + len(d.S) + len(d.List) + len(d.Rows) + len(d.Keys)
-		return room >= 0 && every(d.L, fill)
+		return room >= 0 && lists.Every(d.L, fill)
 	}
 	return fill(d)
 }
 
 // isIdle reports whether a change changes nothing: whatever its kind, there is nothing in it, but in parts that change nothing.
 func isIdle(c api.Change) bool {
-	return c.N == 0 && len(c.Edit)+len(c.Rows)+len(c.Keys) == 0 && every(c.L, isIdle)
+	return c.N == 0 && len(c.Edit)+len(c.Rows)+len(c.Keys) == 0 && lists.Every(c.L, isIdle)
 }
 
 // sameData reports whether two data of one type are the same.
@@ -45,7 +46,7 @@ func sameValue(a, b api.Value) bool {
 func freshData(d api.Data) api.Data {
 	d.V = fresh.Value(d.V)
 	d.List = fresh.List(d.List, fresh.Value)
-	d.Rows = fresh.List(d.Rows, freshItem)
+	d.Rows = fresh.Zset(d.Rows)
 	d.Keys = fresh.List(d.Keys, fresh.Value)
 	d.L = fresh.List(d.L, freshData)
 	return d
@@ -54,15 +55,10 @@ func freshData(d api.Data) api.Data {
 func freshChange(c api.Change) api.Change {
 	c.Old, c.New = fresh.Value(c.Old), fresh.Value(c.New)
 	c.Edit = fresh.List(c.Edit, freshPiece)
-	c.Rows = fresh.List(c.Rows, freshItem)
+	c.Rows = fresh.Zset(c.Rows)
 	c.L = fresh.List(c.L, freshChange)
 	c.Keys = fresh.List(c.Keys, freshKey)
 	return c
-}
-
-func freshItem(x api.Item) api.Item {
-	x.Row = fresh.Value(x.Row)
-	return x
 }
 
 func freshPiece(p api.EditPiece) api.EditPiece {

@@ -27,3 +27,11 @@ func Type(t api.Type) api.Type {
 	t.L = List(t.L, Type)
 	return t
 }
+
+// Zset returns a collection in new memory. All of its rows must be valid values.
+func Zset(z api.Zset) api.Zset { return List(z, item) }
+
+func item(x api.Item) api.Item {
+	x.Row = Value(x.Row)
+	return x
+}

@@ -53,3 +53,16 @@ func TestType(t *testing.T) { // R4
 		t.Errorf("%v and %v share memory", c, outer)
 	}
 }
+
+func TestZset(t *testing.T) { // R3, R4
+	row := []api.Value{{N: 1}}
+	z := api.Zset{{Row: api.Value{Kind: api.ValueTuple, L: row}, N: -2}, {Row: api.Value{Kind: api.ValueText, S: "a"}, N: 3}}
+	c := fresh.Zset(z)
+	if len(c) != 2 || c[0].N != -2 || c[1].N != 3 || !same(c[0].Row, z[0].Row) || !same(c[1].Row, z[1].Row) {
+		t.Fatalf("%v of %v", c, z)
+	}
+	c[0].Row.L[0].N, c[1].N = 7, 7
+	if row[0].N != 1 || z[1].N != 3 || len(fresh.Zset(nil)) > 0 {
+		t.Errorf("%v and %v share memory", c, z)
+	}
+}
